@@ -1,0 +1,1 @@
+"""Reaimed: a language of prototypes, and a machine that compiles it while it changes."""

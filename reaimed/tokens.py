@@ -36,9 +36,17 @@ def is_word_part(char):
     return is_letter(char) or char in DIGITS or char == "_"
 
 
+def is_name(word):
+    """Tell whether a word is a name."""
+    if len(word) == 0 or not is_letter(word[0]) or word in KEYWORDS:
+        return False
+    return all([is_word_part(char) for char in word])
+
+
 def is_number(word):
-    """Tell whether a word that begins with a digit is a number."""
-    if not word.isdigit():
+    """Tell whether a word is a number."""
+    # isdigit alone would also take the digits of other alphabets.
+    if not word.isascii() or not word.isdigit():
         return False
     if len(word) > 1 and word[0] == "0":
         return False

@@ -22,6 +22,11 @@ BUILTINS = set(
     " repr any all divmod pow map iter next getattr hasattr setattr super property staticmethod classmethod Exception"
     " ValueError TypeError KeyError IndexError LookupError ZeroDivisionError ArithmeticError OverflowError"
     " RuntimeError NotImplementedError AttributeError StopIteration NotImplemented".split())
+METHODS = set(
+    "append clear copy count endswith extend find get index insert isalnum isalpha isdigit islower isspace isupper items"
+    " join keys ljust lower lstrip partition pop remove replace reverse rfind rjust rpartition rsplit rstrip setdefault"
+    " split splitlines startswith strip update upper values zfill bit_length isascii add discard sort".split())
+FREE_ATTRIBUTES = {"count", "index", "title", "find", "get", "join", "lower", "upper", "split", "strip", "copy", "add"}
 BARRED_NAMES = set(
     "attrgetter breakpoint builtins compile copyright credits delattr dir eval exec exit gc globals help id importlib"
     " license locals methodcaller os quit type vars sys register mro elements open input law version_info"
@@ -57,6 +62,8 @@ def bound_names(tree):
             yield node.name
         elif isinstance(node, ast.arg):
             yield node.arg
+        elif isinstance(node, (ast.MatchAs, ast.MatchStar)) and node.name is not None:
+            yield node.name
 
 
 def imports_of(tree):
@@ -145,6 +152,48 @@ class TestRules(unittest.TestCase):
                 if isinstance(function, ast.FunctionDef):
                     for part in function.body + [function.args]:
                         self.assertEqual(taken & set(bound_names(part)), set(), (path, function.name))
+
+    def test_captured_names_stand_in_their_case_alone(self):
+        for path, tree in self.trees.items():
+            for function in ast.walk(tree):
+                if isinstance(function, ast.FunctionDef):
+                    cases = [node for node in ast.walk(function) if isinstance(node, ast.match_case)]
+                    inside = {id(node) for case in cases for node in ast.walk(case)}
+                    for case in cases:
+                        captured = set(bound_names(case.pattern))
+                        for part in case.body:
+                            self.assertEqual(captured & set(bound_names(part)), set(), (path, function.name))
+                            read = {node.id for node in ast.walk(part) if isinstance(node, ast.Name)}
+                            other = {name for one in cases for name in bound_names(one.pattern)} - captured
+                            self.assertEqual(read & other, set(), (path, function.name))
+                        for node in ast.walk(function):
+                            if id(node) not in inside and isinstance(node, (ast.Name, ast.arg)):
+                                name = node.id if isinstance(node, ast.Name) else node.arg
+                                self.assertNotIn(name, captured, (path, function.name))
+
+    def test_methods_that_are_called(self):
+        for path, tree in self.trees.items():
+            for node in ast.walk(tree):
+                if isinstance(node, ast.Call) and isinstance(node.func, ast.Attribute):
+                    name = node.func.attr
+                    self.assertTrue(name in METHODS or name in self.own_methods() or name == "__init__", (path, name))
+
+    def own_methods(self):
+        """The names of the methods that the classes of the package define."""
+        classes = [node for tree in self.trees.values() for node in ast.walk(tree) if isinstance(node, ast.ClassDef)]
+        return {part.name for node in classes for part in node.body if isinstance(part, ast.FunctionDef)}
+
+    def test_no_name_is_a_method_and_an_attribute(self):
+        for path, tree in self.trees.items():
+            for node in ast.walk(tree):
+                if isinstance(node, ast.ClassDef):
+                    methods = {part.name for part in node.body if isinstance(part, ast.FunctionDef)}
+                    stored = {part.attr for part in ast.walk(node)
+                              if isinstance(part, ast.Attribute) and isinstance(part.ctx, ast.Store)}
+                    self.assertEqual(methods & stored, set(), (path, node.name))
+                    for name in (methods - METHODS - {"__init__"}) | (stored - FREE_ATTRIBUTES):
+                        for value in (0, "", b"", [], {}, set()):
+                            self.assertFalse(hasattr(value, name), (path, name))
 
     def test_builtins(self):
         for path, tree in self.trees.items():

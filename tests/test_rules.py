@@ -62,7 +62,7 @@ def bound_names(tree):
             yield node.name
         elif isinstance(node, ast.arg):
             yield node.arg
-        elif isinstance(node, (ast.MatchAs, ast.MatchStar)) and node.name is not None:
+        elif isinstance(node, (ast.MatchAs, ast.MatchStar, ast.ExceptHandler)) and node.name is not None:
             yield node.name
 
 

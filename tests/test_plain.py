@@ -371,6 +371,11 @@ class TestCalls(RowCase):
         self.assertEqual(machine.scopes, {0: (-1, (NOTHING, num(5))), 1: (0, (num(5),))})
         self.assertEqual(self.step(machine), (num(5),))
 
+    def test_setouter_takes_the_top(self):
+        inner = method(0, 0, push(1), push(2), push(3), ("setouter", 1, 0), ("home",))
+        machine = self.started(method(0, 1, ("block", 1), ("call", 0), ("return",)), inner, many=6)
+        self.assertEqual((machine.scopes, machine.frames[-1][6]), ({0: (-1, (num(3),))}, (ONE, TWO)))
+
     def test_outer_rows_of_a_captured_code(self):
         inner = method(0, 1, ("outer", 1, 0), ("setouter", 1, 1), ("block", 1), ("return",))
         machine = self.started(method(0, 2, push(5), ("set", 0), ("block", 1), ("call", 0), ("return",)), inner, many=6)
@@ -432,10 +437,10 @@ class TestReturns(RowCase):
         self.check_text(text, 11)
 
     def test_home_in_a_method_is_a_return_of_its_own_frame(self):
-        captured = method(0, 0, ("block", 2), ("pop",), push(3), ("home",))
+        captured = method(0, 0, ("block", 2), push(3), ("home",))
         machine = self.started(
             method(0, 0, ("self",), ("method", 1), ("put", "m", "method"), ("self",), ("send", "m", 0), ("return",)),
-            captured, method(0, 0, *END), many=9)
+            captured, method(0, 0, *END), many=8)
         self.assertEqual([frame[6] for frame in machine.frames], [(num(3),)])
 
     def test_marks(self):

@@ -93,7 +93,8 @@ class Caches:
         self.next_number += 1
         numbers[number] = entry
         for object_id in entry[3]:
-            self.resting.setdefault(object_id, {})[number] = site
+            resting = self.resting.setdefault(object_id, {})
+            resting[number] = site
         return entry[2]
 
     def forget(self, site, number):
@@ -112,7 +113,10 @@ class Caches:
 
     def gone(self, ids):
         """Forget the entries that rest on any of these objects; return how many."""
-        return sum([self.changed(object_id) for object_id in ids])
+        many = 0
+        for object_id in ids:
+            many += self.changed(object_id)
+        return many
 
     def entries(self, site):
         """Return the list of the entries of a site, in the order in which they were made."""

@@ -16,12 +16,12 @@ class FastMachine(Machine):
     """A machine that runs plain and fast code, and shows plain frames."""
 
     def __init__(self, code):
+        super().__init__(code)
         self.shapes = Shapes()
+        self.caches = Caches(self.objects, self.shapes)
         self.fast_codes = {}
         self.searches = 0
         self.placed = 0
-        Machine.__init__(self, code)
-        self.caches = Caches(self.objects, self.shapes)
 
     def tick(self):
         """Do the row that comes next in the last frame."""
@@ -31,7 +31,7 @@ class FastMachine(Machine):
         try:
             self.do_next()
         except RowError as error:
-            self.end = ("error", error.word)
+            self.end = ("error", error.problem)
 
     def do_next(self):
         """Do the row that comes next, fast or plain; raise its error."""

@@ -9,7 +9,7 @@ class PlainMachine(Machine):
     """A machine that runs plain code."""
 
     def __init__(self, code):
-        Machine.__init__(self, code)
+        super().__init__(code)
 
     def tick(self):
         """Do the row that comes next in the last frame."""
@@ -20,7 +20,7 @@ class PlainMachine(Machine):
         try:
             do_row(self, frame, next_row(self, frame))
         except RowError as error:
-            self.end = ("error", error.word)
+            self.end = ("error", error.problem)
 
     def keep(self, objects, scopes, blocks):
         """Take away all objects, scopes and blocks whose ids are not in these lists."""

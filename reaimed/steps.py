@@ -15,11 +15,11 @@ FREE_KINDS = ("var", "varparent")
 
 
 class RowError(AimError):
-    """A row has an error, which is told by a word."""
+    """A row has a problem, which is told by a word."""
 
-    def __init__(self, word):
-        super().__init__(f"error {word}")
-        self.word = word
+    def __init__(self, problem):
+        super().__init__(f"problem {problem}")
+        self.problem = problem
 
 
 def go_on(machine, frame, stack):

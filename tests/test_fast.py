@@ -517,6 +517,33 @@ class TestChanges(FastCase):
         self.to_end()
         self.assertEqual([value[1] for _, value in machine.events], [101] * 4)
 
+    def test_a_plain_frame_changes_what_a_fast_one_below_rests_on(self):
+        for change, value in (("put top.z const = 1;", 1), ("put top.x const = 4;", 4), ("drop top.c;", 1), ("top.up := 5;", 1)):
+            machine = self.ready(change)
+            self.deed("take_back", self.CHANGE)
+            self.deed("take_back", self.WAIT)
+            # The site of the send to change has two entries, so it stays a send.
+            machine.caches.ask((self.WAIT, 5), "zz", 0)
+            self.assertTrue(self.deed("prepare", self.WAIT))
+            self.until(lambda: self.kinds() == ["method", "fast", "method"] and machine.frames[1][1][0] == self.WAIT)
+            self.until(lambda: "fast" not in self.kinds())
+            self.assertEqual(len(machine.frames), 3)
+            self.assertIn(machine.code[0][self.CHANGE][3][machine.frames[-1][2] - 1][0], ("put", "drop", "assign"))
+            self.to_end()
+            self.assertEqual(machine.events[3:], [("print", num(1 + value)), ("print", num(value))])
+
+    def test_main_changes_what_fast_code_rests_on(self):
+        text = ("object top { var x = 1; var parent up = nothing; } object low { parent p = top; } method get(o) { return o.x(); }"
+                "main { print get(low); print get(low); put top.y const = 1; print get(low); print get(low); }")
+        machine = self.begin(text)
+        self.until_prints(1)
+        self.prepare_all()
+        self.until(lambda: not machine.is_fast(1))
+        self.assertEqual(machine.code[0][0][3][machine.frames[-1][2] - 1], ("put", "y", "const"))
+        self.assertEqual((machine.placed, len(machine.events)), (1, 2))
+        self.to_end()
+        self.assertEqual((machine.placed, machine.is_fast(1)), (1, False))
+
     def test_frames_with_earlier_code(self):
         # wait runs with code that rests on top; then it gets code without rests.
         machine = self.ready("put top.z const = 1;")

@@ -240,6 +240,13 @@ class TestSends(RowCase):
         self.assertEqual(self.step(machine), (("block", 0),))
         self.assertEqual(machine.blocks, {0: (2, ref(1), 0, 0, 1)})
 
+    def test_blocks_in_slots_are_data(self):
+        for kind in ("const", "method"):
+            machine = self.started(
+                method(0, 0, ("self",), ("block", 1), ("put", "s", kind), push(9), ("self",), ("send", "s", 0), ("return",)),
+                method(0, 0, *END), many=5)
+            self.assertEqual(self.step(machine), (num(9), ("block", 0)))
+
     def test_holders(self):
         rows = (("send", "lobby", 0), ("pop",), ("self",), ("method", 1), ("put", "t", "method"), ("self",),
                 ("object", (("p", "parent"),)), ("object", (("p", "parent"),)), ("send", "t", 0), ("return",))

@@ -35,14 +35,14 @@ def deeds_of_ticks(schedule):
 
 def do_deed(machine, deed):
     """Ask a fast machine to do a deed; a method that does not exist is passed over."""
-    methods = range(len(machine.code[0]))
+    many = len(machine.code[0])
     match deed:
-        case ("compile", j) if j in methods:
+        case ("compile", j) if 0 <= j < many:
             machine.prepare(j)
         case ("compile all",):
-            for each in methods:
+            for each in range(many):
                 machine.prepare(each)
-        case ("take back", j) if j in methods:
+        case ("take back", j) if 0 <= j < many:
             machine.take_back(j)
         case ("forget",):
             machine.forget()
